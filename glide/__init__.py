@@ -1,0 +1,1 @@
+"""Glide: bodies that glide over a floor and halt where they would overlap."""
