@@ -3,6 +3,8 @@
 from glide.errors import NoNumber
 from glide.portions import divisor, is_whole
 
+MIDDLE = (0, 0, 1)
+
 
 def spot(x, y, w):
     if not is_whole(x) or not is_whole(y) or not is_whole(w) or w == 0:

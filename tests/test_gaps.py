@@ -1,14 +1,10 @@
 import unittest
 from fractions import Fraction
 
-from glide.gaps import along, gap, least, most
-from samples import BODIES, DIAMOND, GREAT, HEXAGON, MIDDLE, SQUARE, TRIANGLE, VAST, drawn_pairs, moved
+from glide.gaps import along, gap, least, most, parts
+from samples import BODIES, DIAMOND, GREAT, HEXAGON, MIDDLE, SQUARE, TRIANGLE, VAST, back, drawn_pairs, moved, turned
 
 DIRECTIONS = ((0, 0), (1, 0), (0, 1), (-1, 0), (0, -1), (3, 2), (-2, 5), (-1, -1), (GREAT, 1 - GREAT))
-
-
-def turned(n):
-    return (-n[0], -n[1])
 
 
 class AlongTest(unittest.TestCase):
@@ -92,7 +88,7 @@ class GapTest(unittest.TestCase):
         for ones, others, D in drawn_pairs(11, 60):
             for n in DIRECTIONS:
                 told = gap(ones, others, D, n)
-                self.assertEqual(gap(others, ones, (-D[0], -D[1], D[2]), turned(n)), told)
+                self.assertEqual(gap(others, ones, back(D), turned(n)), told)
 
     def test_drawn(self):
         for ones, others, D in drawn_pairs(12, 60):
@@ -103,6 +99,18 @@ class GapTest(unittest.TestCase):
                 told = gap(ones, others, D, n)
                 self.assertIs(type(told), tuple)
                 self.assertEqual(told, (expected.numerator, expected.denominator))
+
+
+class PartsTest(unittest.TestCase):
+    def test_from_0_on(self):
+        self.assertIs(parts(SQUARE, SQUARE, (5, 0, 1), (1, 0)), True)
+        self.assertIs(parts(SQUARE, SQUARE, (2, 1, 1), (1, 0)), True)
+        self.assertIs(parts(SQUARE, SQUARE, (2, 1, 1), (0, 1)), False)
+        self.assertIs(parts(SQUARE, SQUARE, (2 * GREAT - 1, 0, GREAT), (1, 0)), False)
+
+    def test_no_direction_parts_none(self):
+        self.assertIs(parts(SQUARE, SQUARE, (5, 0, 1), (0, 0)), False)
+        self.assertIs(parts(SQUARE, SQUARE, (0, 5, 1), (0, 1)), True)
 
 
 class NothingKeptTest(unittest.TestCase):

@@ -4,7 +4,7 @@ from glide.bodies import normals
 from glide.gaps import gap
 from glide.lines import directions, line
 from samples import (
-    BODIES, DIAMOND, GREAT, HEXAGON, MIDDLE, NEEDLE, SQUARE, TRIANGLE, VAST, drawn_pairs, overlap_by_area,
+    BODIES, DIAMOND, GREAT, HEXAGON, MIDDLE, NEEDLE, SQUARE, TRIANGLE, VAST, back, drawn_pairs, overlap_by_area,
 )
 
 
@@ -26,7 +26,7 @@ class DirectionsTest(unittest.TestCase):
 
 class LineTest(unittest.TestCase):
     def parted(self, ones, others, D):
-        for first, second, way in ((ones, others, D), (others, ones, (-D[0], -D[1], D[2]))):
+        for first, second, way in ((ones, others, D), (others, ones, back(D))):
             told = line(first, second, way)
             self.assertIs(type(told), tuple)
             self.assertNotEqual(told, (0, 0))
@@ -34,7 +34,7 @@ class LineTest(unittest.TestCase):
 
     def not_parted(self, ones, others, D):
         self.assertIsNone(line(ones, others, D))
-        self.assertIsNone(line(others, ones, (-D[0], -D[1], D[2])))
+        self.assertIsNone(line(others, ones, back(D)))
 
     def test_apart(self):
         for D in ((5, 0, 1), (-5, 0, 1), (0, 5, 1), (0, -5, 1), (9, 9, 1), (-9, -7, 2), (GREAT, -GREAT, 1)):
