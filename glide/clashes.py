@@ -23,32 +23,9 @@ def smallest(times):
     return found
 
 
-def time_of_touch(course):
-    now = course[0]
-    return portion(-now[0], now[1] * course[1])
-
-
-def overlap_span(ones, others, D, V):
-    # They overlap just while all their gaps are below 0, and a gap grows or falls evenly.
-    courses = [(gap(ones, others, D, n), along(V, n)) for n in directions(ones, others)]
-    if any([growth == 0 and now[0] >= 0 for now, growth in courses]):
-        return None
-    # Bodies are bounded: of two that glide some gaps fall and some grow.
-    begin = greatest([time_of_touch(course) for course in courses if course[1] < 0])
-    end = smallest([time_of_touch(course) for course in courses if course[1] > 0])
-    if not under(begin, end):
-        return None
-    return (begin, end)
-
-
-def clash(ones, others, D, V):
-    if line(ones, others, D) is None:
-        raise Crowded("the two bodies overlap now")
-    span = overlap_span(ones, others, D, V)
-    # Where the span begins before now it is over: they don't overlap now.
-    if span is None or span[0][0] < 0:
-        return None
-    return span[0]
+def touch(ones, others, D, V, n):
+    now = gap(ones, others, D, n)
+    return portion(-now[0], now[1] * along(V, n))
 
 
 def parts_up_to(ones, others, D, V, n, t):
@@ -70,3 +47,17 @@ def line_up_to(ones, others, D, V, t):
         if parts_up_to(ones, others, D, V, n, t):
             return n
     return None
+
+
+def clash(ones, others, D, V):
+    if line(ones, others, D) is None:
+        raise Crowded("the two bodies overlap now")
+    if line_up_to(ones, others, D, V, None) is not None:
+        return None
+    # They overlap once all gaps are below 0, and those that aren't now all fall: else one would part for ever.
+    return greatest([touch(ones, others, D, V, n) for n in directions(ones, others) if parts(ones, others, D, n)])
+
+
+def end_of_overlap(ones, others, D, V):
+    # Of two that clash: they overlap till the first gap that grows is no more below 0.
+    return smallest([touch(ones, others, D, V, n) for n in directions(ones, others) if along(V, n) > 0])

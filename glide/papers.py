@@ -1,7 +1,7 @@
 """Papers: a line that parts two gliding bodies, or the clash of them, with what it takes to check it."""
 
 from glide.bodies import where
-from glide.clashes import clash, line_up_to, overlap_span, parts_up_to
+from glide.clashes import clash, end_of_overlap, line_up_to, parts_up_to
 from glide.portions import plus, times, under
 from glide.shared import inner, shared
 from glide.spots import MIDDLE, gone_on
@@ -65,8 +65,7 @@ def meeting(ones, others, D, V):
     n = line_up_to(ones, others, D, V, t)
     if t is None:
         return Line(n, None)
-    span = overlap_span(ones, others, D, V)
-    later = times(HALF, plus(span[0], span[1]))
+    later = times(HALF, plus(t, end_of_overlap(ones, others, D, V)))
     P = shared(ones, others, gone_on(D, V, t))[0]
     Q = inner(ones, others, gone_on(D, V, later))
     return Clash(t, n, P, later, Q)

@@ -3,7 +3,7 @@
 from glide.bodies import sides, where
 from glide.lines import line
 from glide.portions import portion
-from glide.spots import MIDDLE, ahead, gone_on, put_at, spot, way_from
+from glide.spots import MIDDLE, ahead, gone_on, put_at, spot
 
 
 def across(one, other):
@@ -14,8 +14,10 @@ def way_along(side):
     return (side[1][0] - side[0][0], side[1][1] - side[0][1])
 
 
-def is_part(t):
-    return 0 <= t[0] <= t[1]
+def is_part(top, bottom):
+    if bottom < 0:
+        return bottom <= top <= 0
+    return 0 <= top <= bottom
 
 
 def crossing(side, other, D):
@@ -25,13 +27,13 @@ def crossing(side, other, D):
     # Sides along one line or side by side: the ends of what they share are corners, and found as these.
     if turn == 0:
         return None
-    begin = put_at(side[0], MIDDLE)
-    way = way_from(begin, put_at(other[0], D))
-    part = portion(across(way, back), turn * way[2])
-    other_part = portion(across(way, forth), turn * way[2])
-    if is_part(part) and is_part(other_part):
-        return gone_on(begin, forth, part)
-    return None
+    step = way_along((side[0], other[0]))
+    # From begin to begin, times D[2]: so all stays whole till it is known that they meet.
+    way = (step[0] * D[2] + D[0], step[1] * D[2] + D[1])
+    bottom = turn * D[2]
+    if not is_part(across(way, back), bottom) or not is_part(across(way, forth), bottom):
+        return None
+    return gone_on(put_at(side[0], MIDDLE), forth, portion(across(way, back), bottom))
 
 
 def crossings(ones, others, D):
@@ -52,7 +54,8 @@ def corners_within(corners, S, others, D):
 def in_order(spots):
     kept = []
     for S in spots:
-        kept.insert(len([Q for Q in kept if ahead(Q, S)]), S)
+        place = len([Q for Q in kept if ahead(Q, S)])
+        kept.insert(place, S)
     return kept
 
 

@@ -10,6 +10,7 @@ from glide.spots import spot
 GREAT = 10 ** 60 - 1
 MIDDLE = (0, 0, 1)
 
+UNIT = [(0, 0), (1, 0), (1, 1), (0, 1)]
 SQUARE = [(0, 0), (2, 0), (2, 2), (0, 2)]
 TRIANGLE = [(0, 0), (4, 0), (0, 4)]
 DIAMOND = [(-2, 0), (0, -2), (2, 0), (0, 2)]
@@ -22,6 +23,7 @@ BODIES = (SQUARE, TRIANGLE, DIAMOND, NEEDLE, HEXAGON)
 COURSES = (
     ("towards", SQUARE, SQUARE, (5, 0, 1), (-1, 0), (3, 1)),
     ("towards, from the left", SQUARE, SQUARE, (-5, 0, 1), (1, 0), (3, 1)),
+    ("small ones, slowly", UNIT, UNIT, (-3, 0, 1), (1, 0), (2, 1)),
     ("towards, from above", SQUARE, SQUARE, (1, 7, 1), (0, -2), (5, 2)),
     ("towards, from below", SQUARE, SQUARE, (-1, -7, 1), (0, 3), (5, 3)),
     ("towards, slanting", SQUARE, SQUARE, (5, 5, 1), (-2, -1), (3, 1)),
